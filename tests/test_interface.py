@@ -1,0 +1,29 @@
+import ast
+import contextlib
+import inspect
+import io
+import unittest
+
+from towerorwalk import graphs
+
+
+class Interface(unittest.TestCase):
+    def test_names_and_arguments(self):
+        self.assertEqual(list(inspect.signature(graphs.tower).parameters), ["n", "k", "first"])
+
+    def test_it_imports_nothing(self):
+        imports = [node for node in ast.walk(ast.parse(inspect.getsource(graphs)))
+                   if isinstance(node, (ast.Import, ast.ImportFrom))]
+        self.assertEqual(imports, [])
+
+    def test_it_prints_nothing(self):
+        printed = io.StringIO()
+        with contextlib.redirect_stdout(printed), contextlib.redirect_stderr(printed):
+            graphs.tower(3, 2, [0, 1, 1, 2])
+            graphs.tower(3, 3, [0, 1, 1, 2])
+            graphs.tower(0, 0, [1])
+        self.assertEqual(printed.getvalue(), "")
+
+
+if __name__ == "__main__":
+    unittest.main()

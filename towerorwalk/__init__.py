@@ -1,0 +1,1 @@
+"""One or the other: a graph is mapped into a tower, or has a walk."""
