@@ -100,6 +100,18 @@ def first_walk(n, k, arrows):
     return walk_that_begins(n, k, arrows, [])
 
 
+def longest_walk(n, arrows):
+    """How many arrows the longest walk has, or None if one comes twice to a place: by all walks there are."""
+    length, walks = 0, [[place] for place in range(n)]
+    while True:
+        longer = [places + [v] for places in walks for u, v in arrows if u == places[-1]]
+        if any(len(set(places)) < len(places) for places in longer):
+            return None
+        if not longer:
+            return length
+        length, walks = length + 1, longer
+
+
 def every_graph(n):
     pairs = list(itertools.product(range(n), repeat=2))
     for chosen in itertools.product((False, True), repeat=len(pairs)):

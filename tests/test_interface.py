@@ -10,6 +10,7 @@ from towerorwalk import graphs
 class Interface(unittest.TestCase):
     def test_names_and_arguments(self):
         self.assertEqual(list(inspect.signature(graphs.tower).parameters), ["n", "k", "first"])
+        self.assertEqual(list(inspect.signature(graphs.longest).parameters), ["n", "first"])
 
     def test_it_imports_nothing(self):
         imports = [node for node in ast.walk(ast.parse(inspect.getsource(graphs)))
@@ -22,6 +23,9 @@ class Interface(unittest.TestCase):
             graphs.tower(3, 2, [0, 1, 1, 2])
             graphs.tower(3, 3, [0, 1, 1, 2])
             graphs.tower(0, 0, [1])
+            graphs.longest(3, [0, 1, 1, 2])
+            graphs.longest(3, [0, 1, 1, 0])
+            graphs.longest(0, [1])
         self.assertEqual(printed.getvalue(), "")
 
 

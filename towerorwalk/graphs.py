@@ -1,4 +1,4 @@
-"""Graphs of 1 to 5 places: is there a map into a tower, or a walk?
+"""Graphs of 1 to 5 places: is there a map into a tower, or a walk, and how long is the longest?
 
 A graph comes as n, how many places it has, and a flat list of its arrows;
 within this file its arrows are a list of pairs (source, target).
@@ -8,6 +8,7 @@ MOST_PLACES = 5
 HIGHEST_TOWER = 6
 
 NOT_AS_TOLD = -22
+COMES_ROUND = -33
 
 
 def tower(n, k, first):
@@ -21,6 +22,16 @@ def tower(n, k, first):
     # Every map gives each place at least its height, so the heights are the
     # first map; and without a walk of k arrows they are all below k.
     return [1] + heights_of(n, arrows)
+
+
+def longest(n, first):
+    """How many arrows the longest walk has, if it doesn't come round."""
+    if not is_graph(n, first):
+        return [NOT_AS_TOLD]
+    arrows = pair_up(first)
+    if comes_round(n, arrows):
+        return [COMES_ROUND]
+    return [max(heights_of(n, arrows))]
 
 
 def is_graph(n, first):
@@ -73,6 +84,13 @@ def first_walk(n, k, arrows):
         choices = [target for source, target in arrows if source == here and rows[left][target]]
         places.append(choices[0])
     return places
+
+
+def comes_round(n, arrows):
+    """Whether there's a walk that comes twice to a place."""
+    # A walk of n arrows tells one more place than there are, so one of them twice;
+    # and what comes round can be walked on for as long as one likes.
+    return any(starts_by_length(n, n, arrows)[n])
 
 
 def heights_of(n, arrows):
