@@ -45,6 +45,12 @@ NOT_GRAPHS = {
     "falling and not there": (3, [7, 1, 0, 9]),
 }
 
+# What isn't a graph as told, and would come round if it were one.
+NOT_GRAPHS_THAT_COME_ROUND = (
+    (1, [0, 0, 0]), (1, [0, 0, 0, 0]), (2, [1, 0, 0, 1]), (2, [0, 1, 1, 0, 1]), (2, [0, 1, 1, 0, 2, 2]),
+    (0, [0, 0]), (6, [0, 1, 1, 0]), (6, [5, 5]), (BIGGEST, [0, 0]), (3, [0, 1, 1, 2, 2, 0, 2, 0]),
+    (3, [0, 0, BIGGEST, BIGGEST]), (5, [0, 0] * 30))
+
 
 class ReadOnlyList(list):
     """A list that complains as soon as it's changed, even if it were changed back later."""
@@ -54,6 +60,39 @@ class ReadOnlyList(list):
 
     append = clear = extend = insert = pop = remove = reverse = sort = refuse
     __setitem__ = __delitem__ = __iadd__ = __imul__ = refuse
+
+
+class CallsByThemselves:
+    """What each call must keep to, for a TestCase that sets call, and CALLS: what is handed in, the list last."""
+
+    def call_with_copies(self, handed_in):
+        return self.call(*handed_in[:-1], list(handed_in[-1]))
+
+    def test_the_list_handed_in_is_as_it_was(self):
+        for handed_in in self.CALLS:
+            first = ReadOnlyList(handed_in[-1])
+            self.call(*handed_in[:-1], first)
+            self.assertEqual(first, handed_in[-1])
+
+    def test_the_same_call_answers_the_same_again(self):
+        before = [self.call_with_copies(handed_in) for handed_in in self.CALLS]
+        again = [self.call_with_copies(handed_in) for handed_in in reversed(self.CALLS)]
+        self.assertEqual(before, again[::-1])
+
+    def test_an_answer_is_the_callers_own(self):
+        for handed_in in self.CALLS:
+            answer = self.call(*handed_in)
+            copy = list(answer)
+            answer[0] = 98
+            answer.append(99)
+            self.assertEqual(self.call(*handed_in), copy)
+            self.assertIsNot(answer, handed_in[-1])
+
+    def test_answers_are_lists_of_whole_numbers(self):
+        for handed_in in self.CALLS:
+            answer = self.call_with_copies(handed_in)
+            self.assertIs(type(answer), list)
+            self.assertEqual([number for number in answer if type(number) is not int], [])
 
 
 def flat(arrows):
@@ -110,6 +149,15 @@ def longest_walk(n, arrows):
         if not longer:
             return length
         length, walks = length + 1, longer
+
+
+def longest_that_ends(n, arrows):
+    """Of each place how many arrows the longest walk has that ends there, or None if one comes twice to a place."""
+    if longest_walk(n, arrows) is None:
+        return None
+    # No walk comes twice to a place, so none has n arrows.
+    walks = [places for k in range(n) for places in walks_one_by_one(n, k, arrows)]
+    return [max(len(places) - 1 for places in walks if places[-1] == place) for place in range(n)]
 
 
 def every_graph(n):

@@ -11,6 +11,7 @@ class Interface(unittest.TestCase):
     def test_names_and_arguments(self):
         self.assertEqual(list(inspect.signature(graphs.tower).parameters), ["n", "k", "first"])
         self.assertEqual(list(inspect.signature(graphs.longest).parameters), ["n", "first"])
+        self.assertEqual(list(inspect.signature(graphs.lift).parameters), ["n", "first"])
 
     def test_it_imports_nothing(self):
         imports = [node for node in ast.walk(ast.parse(inspect.getsource(graphs)))
@@ -26,6 +27,9 @@ class Interface(unittest.TestCase):
             graphs.longest(3, [0, 1, 1, 2])
             graphs.longest(3, [0, 1, 1, 0])
             graphs.longest(0, [1])
+            graphs.lift(3, [0, 1, 1, 2])
+            graphs.lift(3, [0, 1, 1, 0])
+            graphs.lift(0, [1])
         self.assertEqual(printed.getvalue(), "")
 
 

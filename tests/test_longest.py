@@ -1,6 +1,7 @@
 import unittest
 
-from tests.helper import BIGGEST, NOT_GRAPHS, ReadOnlyList, every_graph, flat, longest_walk, many_graphs
+from tests.helper import (
+    BIGGEST, NOT_GRAPHS, NOT_GRAPHS_THAT_COME_ROUND, CallsByThemselves, every_graph, flat, longest_walk, many_graphs)
 from towerorwalk.graphs import longest
 
 
@@ -80,10 +81,7 @@ class WrongInputs(unittest.TestCase):
                 self.assertEqual(longest(n, list(first)), [-22])
 
     def test_not_a_graph_is_told_before_that_it_comes_round(self):
-        for n, first in (
-                (1, [0, 0, 0]), (1, [0, 0, 0, 0]), (2, [1, 0, 0, 1]), (2, [0, 1, 1, 0, 1]), (2, [0, 1, 1, 0, 2, 2]),
-                (0, [0, 0]), (6, [0, 1, 1, 0]), (6, [5, 5]), (BIGGEST, [0, 0]), (3, [0, 1, 1, 2, 2, 0, 2, 0]),
-                (3, [0, 0, BIGGEST, BIGGEST]), (5, [0, 0] * 30)):
+        for n, first in NOT_GRAPHS_THAT_COME_ROUND:
             with self.subTest(n=n, first=first):
                 self.assertEqual(longest(n, first), [-22])
 
@@ -102,36 +100,11 @@ class HeldAgainstTheWords(unittest.TestCase):
             self.check(4, arrows)
 
 
-class NothingChangedNothingKept(unittest.TestCase):
+class NothingChangedNothingKept(CallsByThemselves, unittest.TestCase):
+    call = staticmethod(longest)
     CALLS = (
         (3, [0, 1, 1, 2]), (3, [0, 1, 1, 0]), (1, [0, 0]), (5, []), (2, [0, 1, 0, 1]), (3, [0, 1, 1]), (6, [0, 1]),
         (3, [1, 2, 0, 1]), (5, [BIGGEST] * 60))
-
-    def test_the_list_handed_in_is_as_it_was(self):
-        for n, first in self.CALLS:
-            handed_in = ReadOnlyList(first)
-            longest(n, handed_in)
-            self.assertEqual(handed_in, first)
-
-    def test_the_same_call_answers_the_same_again(self):
-        before = [longest(n, list(first)) for n, first in self.CALLS]
-        again = [longest(n, list(first)) for n, first in reversed(self.CALLS)]
-        self.assertEqual(before, again[::-1])
-
-    def test_an_answer_is_the_callers_own(self):
-        for n, first in self.CALLS:
-            answer = longest(n, first)
-            copy = list(answer)
-            answer[0] = 98
-            answer.append(99)
-            self.assertEqual(longest(n, first), copy)
-            self.assertIsNot(answer, first)
-
-    def test_answers_are_lists_of_one_whole_number(self):
-        for n, first in self.CALLS:
-            answer = longest(n, first)
-            self.assertIs(type(answer), list)
-            self.assertEqual([type(number) for number in answer], [int])
 
 
 if __name__ == "__main__":

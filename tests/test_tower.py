@@ -1,7 +1,7 @@
 import unittest
 
 from tests.helper import (
-    BIGGEST, NOT_GRAPHS, ReadOnlyList, every_graph, first_map, first_walk, flat, is_map, is_walk, many_graphs,
+    BIGGEST, NOT_GRAPHS, CallsByThemselves, every_graph, first_map, first_walk, flat, is_map, is_walk, many_graphs,
     walks_one_by_one)
 from towerorwalk.graphs import tower
 
@@ -142,36 +142,11 @@ class WhatHolds(unittest.TestCase):
                     self.assertEqual(answer[1:] if answer[0] == 0 else None, found, (n, k, arrows))
 
 
-class NothingChangedNothingKept(unittest.TestCase):
+class NothingChangedNothingKept(CallsByThemselves, unittest.TestCase):
+    call = staticmethod(tower)
     CALLS = (
         (3, 3, [0, 1, 1, 2]), (3, 2, [0, 1, 1, 2]), (2, 6, [0, 1, 1, 0]), (5, 1, []), (2, 2, [0, 1, 0, 1]),
         (3, 2, [0, 1, 1]), (6, 2, [0, 1]), (3, 7, [1, 2, 0, 1]), (5, 3, [BIGGEST] * 60))
-
-    def test_the_list_handed_in_is_as_it_was(self):
-        for n, k, first in self.CALLS:
-            handed_in = ReadOnlyList(first)
-            tower(n, k, handed_in)
-            self.assertEqual(handed_in, first)
-
-    def test_the_same_call_answers_the_same_again(self):
-        before = [tower(n, k, list(first)) for n, k, first in self.CALLS]
-        again = [tower(n, k, list(first)) for n, k, first in reversed(self.CALLS)]
-        self.assertEqual(before, again[::-1])
-
-    def test_an_answer_is_the_callers_own(self):
-        for n, k, first in self.CALLS:
-            answer = tower(n, k, first)
-            copy = list(answer)
-            answer.append(99)
-            answer[0] = 98
-            self.assertEqual(tower(n, k, first), copy)
-            self.assertIsNot(answer, first)
-
-    def test_answers_are_lists_of_whole_numbers(self):
-        for n, k, first in self.CALLS:
-            answer = tower(n, k, first)
-            self.assertIs(type(answer), list)
-            self.assertEqual([number for number in answer if type(number) is not int], [])
 
 
 if __name__ == "__main__":

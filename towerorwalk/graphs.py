@@ -34,6 +34,16 @@ def longest(n, first):
     return [max(heights_of(n, arrows))]
 
 
+def lift(n, first):
+    """How many places there are, then of each how many arrows the longest walk has that ends there."""
+    if not is_graph(n, first):
+        return [NOT_AS_TOLD]
+    arrows = pair_up(first)
+    if comes_round(n, arrows):
+        return [COMES_ROUND]
+    return [n] + heights_of(n, arrows)
+
+
 def is_graph(n, first):
     """Whether n and first tell a graph: few enough places, arrows within them that rise."""
     if n < 1 or n > MOST_PLACES or len(first) % 2 != 0:
