@@ -12,6 +12,7 @@ class Interface(unittest.TestCase):
         self.assertEqual(list(inspect.signature(graphs.tower).parameters), ["n", "k", "first"])
         self.assertEqual(list(inspect.signature(graphs.longest).parameters), ["n", "first"])
         self.assertEqual(list(inspect.signature(graphs.lift).parameters), ["n", "first"])
+        self.assertEqual(list(inspect.signature(graphs.walk).parameters), ["n", "k", "first"])
 
     def test_it_imports_nothing(self):
         imports = [node for node in ast.walk(ast.parse(inspect.getsource(graphs)))
@@ -30,6 +31,9 @@ class Interface(unittest.TestCase):
             graphs.lift(3, [0, 1, 1, 2])
             graphs.lift(3, [0, 1, 1, 0])
             graphs.lift(0, [1])
+            graphs.walk(3, 2, [0, 1, 1, 2])
+            graphs.walk(3, 3, [0, 1, 1, 2])
+            graphs.walk(0, 13, [1])
         self.assertEqual(printed.getvalue(), "")
 
 

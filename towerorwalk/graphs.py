@@ -6,9 +6,11 @@ within this file its arrows are a list of pairs (source, target).
 
 MOST_PLACES = 5
 HIGHEST_TOWER = 6
+MOST_ARROWS_ASKED = 12
 
 NOT_AS_TOLD = -22
 COMES_ROUND = -33
+NO_SUCH_WALK = -33
 
 
 def tower(n, k, first):
@@ -42,6 +44,16 @@ def lift(n, first):
     if comes_round(n, arrows):
         return [COMES_ROUND]
     return [n] + heights_of(n, arrows)
+
+
+def walk(n, k, first):
+    """How many places a walk of k arrows tells, then the first such walk, if there's one."""
+    if not is_graph(n, first) or k > MOST_ARROWS_ASKED:
+        return [NOT_AS_TOLD]
+    found = first_walk(n, k, pair_up(first))
+    if len(found) == 0:
+        return [NO_SUCH_WALK]
+    return [k + 1] + found
 
 
 def is_graph(n, first):
