@@ -160,6 +160,31 @@ def longest_that_ends(n, arrows):
     return [max(len(places) - 1 for places in walks if places[-1] == place) for place in range(n)]
 
 
+def is_colouring(given, arrows):
+    return all(given[u] != given[v] for u, v in arrows)
+
+
+def ways_one_by_one(n, count, arrows):
+    """All ways to give so many colours, in order, found out of all lists of n colours."""
+    for given in itertools.product(range(count), repeat=n):
+        if is_colouring(given, arrows):
+            yield list(given)
+
+
+def is_closed_walk(places, arrows):
+    """By neighbours: whichever way the arrows lead."""
+    return places[0] == places[-1] and all((u, v) in arrows or (v, u) in arrows for u, v in zip(places, places[1:]))
+
+
+def closed_walks_one_by_one(n, k, arrows):
+    """All closed walks by neighbours of k steps, in order, found out of all lists of k places and the first again."""
+    arrows = set(arrows)
+    for places in itertools.product(range(n), repeat=k):
+        closed = places + places[:1]
+        if is_closed_walk(closed, arrows):
+            yield list(closed)
+
+
 def every_graph(n):
     pairs = list(itertools.product(range(n), repeat=2))
     for chosen in itertools.product((False, True), repeat=len(pairs)):
@@ -185,6 +210,18 @@ def graphs_that_rise(n):
         names = list(range(n))
         source.shuffle(names)
         yield sorted((names[u], names[v]) for u, v in arrows)
+
+
+def graphs_by_neighbours(n):
+    """For every choice of neighbours one graph: between two of them an arrow one way, the other way, or both ways."""
+    source = random.Random(n)
+    pairs = list(itertools.combinations_with_replacement(range(n), 2))
+    for chosen in itertools.product((False, True), repeat=len(pairs)):
+        arrows = set()
+        for (u, v), taken in zip(pairs, chosen):
+            if taken:
+                arrows.update(source.choice(([(u, v)], [(v, u)], [(u, v), (v, u)])))
+        yield sorted(arrows)
 
 
 def many_graphs():
