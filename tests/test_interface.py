@@ -14,6 +14,7 @@ class Interface(unittest.TestCase):
         self.assertEqual(list(inspect.signature(graphs.lift).parameters), ["n", "first"])
         self.assertEqual(list(inspect.signature(graphs.walk).parameters), ["n", "k", "first"])
         self.assertEqual(list(inspect.signature(graphs.colours).parameters), ["n", "first"])
+        self.assertEqual(list(inspect.signature(graphs.least).parameters), ["n", "first"])
 
     def test_it_imports_nothing(self):
         imports = [node for node in ast.walk(ast.parse(inspect.getsource(graphs)))
@@ -38,6 +39,9 @@ class Interface(unittest.TestCase):
             graphs.colours(3, [0, 1, 1, 2])
             graphs.colours(3, [0, 1, 1, 2, 2, 0])
             graphs.colours(0, [1])
+            graphs.least(3, [0, 1, 1, 2])
+            graphs.least(3, [0, 1, 1, 1])
+            graphs.least(0, [1])
         self.assertEqual(printed.getvalue(), "")
 
 

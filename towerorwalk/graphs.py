@@ -11,6 +11,7 @@ MOST_ARROWS_ASKED = 12
 NOT_AS_TOLD = -22
 COMES_ROUND = -33
 NO_SUCH_WALK = -33
+ARROW_TO_ITSELF = -33
 
 
 def tower(n, k, first):
@@ -68,6 +69,22 @@ def colours(n, first):
     return [0, len(found)] + found
 
 
+def least(n, first):
+    """How few colours do, then the first way to give them, if no place has an arrow to itself."""
+    if not is_graph(n, first):
+        return [NOT_AS_TOLD]
+    arrows = pair_up(first)
+    if has_arrow_to_itself(arrows):
+        return [ARROW_TO_ITSELF]
+    count = 1
+    given = first_colouring(n, count, arrows)
+    # It ends: n colours, one for each place, always do.
+    while len(given) == 0:
+        count += 1
+        given = first_colouring(n, count, arrows)
+    return [count] + given
+
+
 def is_graph(n, first):
     """Whether n and first tell a graph: few enough places, arrows within them that rise."""
     if n < 1 or n > MOST_PLACES or len(first) % 2 != 0:
@@ -89,6 +106,11 @@ def is_rising(arrows):
 def pair_up(first):
     """The arrows as pairs; the list must have an even count of numbers."""
     return [(first[index], first[index + 1]) for index in range(0, len(first), 2)]
+
+
+def has_arrow_to_itself(arrows):
+    """Whether an arrow leads from a place to the same place."""
+    return any([source == target for source, target in arrows])
 
 
 def both_ways(arrows):
@@ -144,9 +166,9 @@ def first_walk_from(start, k, rows, arrows):
 
 def shortest_odd_closed_walk(n, steps):
     """The first of the shortest closed walks of an odd number of steps, or none if there's no such walk."""
-    # If a closed walk comes twice to a place on its way, it falls into two closed
-    # walks there, and of an odd one one part is odd and shorter. So the shortest
-    # comes once to each place, but for its end, and has at most n steps.
+    # A closed walk that comes twice to a place on its way falls into two closed
+    # walks there; if it's odd, one of the two is odd too, and shorter. So the
+    # shortest comes once to each place, but for its end, and has at most n steps.
     for k in range(1, n + 1, 2):
         found = first_closed_walk(n, k, steps)
         if len(found) > 0:
